@@ -38,7 +38,7 @@ func (r record) encoded() []byte {
 	n := len(r.bytes)
 	b := make([]byte, room(n))
 	b[0], b[1], b[2], b[3] = r.kind, r.group, byte(n), byte(n>>8)
-	sum := crc.Add(crc.Sum(b[:4]), r.bytes)
+	sum := crc.Add(crc.Add(0, b[:4]), r.bytes) // by Add alone: it meets no variable that is assigned while the program runs
 	b[4], b[5] = byte(sum), byte(sum>>8)
 	copy(b[headSize:], r.bytes)
 	copy(b[len(b)-len(seal):], seal)
